@@ -457,7 +457,13 @@ func diskCalls() map[string]func(d impl.Disk) impl.Disk {
 }
 
 func TestDisksShareNoMemory(t *testing.T) {
-	for name, call := range diskCalls() {
+	sharesNoMemory(t, diskCalls())
+}
+
+// sharesNoMemory checks that the disk that a call returns shares no list with its argument or with another result.
+func sharesNoMemory(t *testing.T, calls map[string]func(d impl.Disk) impl.Disk) {
+	t.Helper()
+	for name, call := range calls {
 		d, rooms, spare := roomyDisk()
 		x := call(d)
 		other := call(d)
@@ -485,7 +491,13 @@ func TestSidesShareNoMemory(t *testing.T) {
 	if !sameDisk(impl.DiskOpen(3), diskOf(make([]string, 3), make([]string, 3))) {
 		t.Error("a new disk isn't empty")
 	}
-	for name, call := range diskCalls() {
+	sidesShareNoMemory(t, diskCalls())
+}
+
+// sidesShareNoMemory checks that the two sides of the disk that a call returns share no list.
+func sidesShareNoMemory(t *testing.T, calls map[string]func(d impl.Disk) impl.Disk) {
+	t.Helper()
+	for name, call := range calls {
 		d, _, _ := roomyDisk()
 		x := call(d)
 		want := slices.Clone(x.Sides[1])
