@@ -113,20 +113,25 @@ func TestPtrReadRefusesOtherTexts(t *testing.T) {
 	}
 }
 
+// changedTexts is the beginnings and ends of a text, and the text with one byte more or another one, at each place.
+func changedTexts(text string) []string {
+	var changed []string
+	for i := range len(text) + 1 {
+		changed = append(changed, text[:i], text[i:])
+		for c := range 256 {
+			changed = append(changed, text[:i]+string([]byte{byte(c)})+text[i:])
+			if i < len(text) {
+				changed = append(changed, text[:i]+string([]byte{byte(c)})+text[i+1:])
+			}
+		}
+	}
+	return changed
+}
+
 // What is read of a text that was changed anywhere is what that text tells, or nothing.
 func TestPtrReadOfChangedTexts(t *testing.T) {
 	for text := range goodPtrs() {
-		var changed []string
-		for i := range len(text) + 1 {
-			changed = append(changed, text[:i], text[i:])
-			for c := range 256 {
-				changed = append(changed, text[:i]+string([]byte{byte(c)})+text[i:])
-				if i < len(text) {
-					changed = append(changed, text[:i]+string([]byte{byte(c)})+text[i+1:])
-				}
-			}
-		}
-		for _, s := range changed {
+		for _, s := range changedTexts(text) {
 			p, ok := impl.PtrRead(s)
 			if ok && (!impl.PtrOk(p) || impl.PtrText(p) != s) || !ok && p != (impl.Ptr{}) {
 				t.Errorf("%q: %+v %v", s, p, ok)
