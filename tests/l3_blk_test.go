@@ -113,11 +113,14 @@ func TestPtrReadRefusesOtherTexts(t *testing.T) {
 	}
 }
 
-// changedTexts is the beginnings and ends of a text, and the text with one byte more or another one, at each place.
+// changedTexts is the beginnings and ends of a text, and the text with one byte more, one fewer or another one, at each place.
 func changedTexts(text string) []string {
 	var changed []string
 	for i := range len(text) + 1 {
 		changed = append(changed, text[:i], text[i:])
+		if i < len(text) {
+			changed = append(changed, text[:i]+text[i+1:])
+		}
 		for c := range 256 {
 			changed = append(changed, text[:i]+string([]byte{byte(c)})+text[i:])
 			if i < len(text) {
