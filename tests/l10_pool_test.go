@@ -88,13 +88,18 @@ func callByHand(p impl.Pool, op impl.BookOp) (impl.Pool, int) {
 	if op.Kind == impl.BookPuts {
 		return writeByHand(p, op)
 	}
-	c, dirty := setsByHand(p.Core, op)
-	slices.SortFunc(c.Sets, func(a, b impl.CoreSet) int { return strings.Compare(a.Name, b.Name) })
-	c.Ddt, c.Dirty = coreOf(c.Sets...).Ddt, c.Dirty || dirty
-	if x := commitByHand(p.Disk, c); x.code == impl.BookDone {
+	if x := commitByHand(p.Disk, turnedByHand(p.Core, op)); x.code == impl.BookDone {
 		return poolOf(x.disk, x.core), impl.BookDone
 	}
 	return p, impl.BookRoom
+}
+
+// turnedByHand is a state behind an operation other than a write, which the book does, ahead of the commit.
+func turnedByHand(c impl.Core, op impl.BookOp) impl.Core {
+	c, dirty := setsByHand(c, op)
+	slices.SortFunc(c.Sets, func(a, b impl.CoreSet) int { return strings.Compare(a.Name, b.Name) })
+	c.Ddt, c.Dirty = coreOf(c.Sets...).Ddt, c.Dirty || dirty
+	return c
 }
 
 // setsByHand is a state with the sets behind an operation other than a write, in some order, and whether a pointer is counted or discounted.
@@ -132,25 +137,33 @@ func writeByHand(p impl.Pool, op impl.BookOp) (impl.Pool, int) {
 		}
 		d, c = ownDisk(x.disk), ownCore(x.core)
 	}
-	next := impl.Ptr{}
-	if op.Text != "" {
-		at := placeByHand(&d, c, op.Text)
-		if c.Txg == 1000000 || at == 0 {
-			return p, impl.BookRoom
-		}
-		next = ptr(at, impl.SumOf(op.Text), c.Txg+1)
-	}
-	set := &c.Sets[setAt(c, op.A)]
-	if old := set.Map[op.I]; next.At == 0 || next.At != old.At {
-		set.Map[op.I], set.Dirty = next, true
-		c.Dirty = c.Dirty || old.At != 0 || next.At != 0
-		c.Ddt = coreOf(c.Sets...).Ddt
+	if !pointByHand(&d, &c, op) {
+		return p, impl.BookRoom
 	}
 	d, c, ok := putByHand(d, c, puts(op.A, op.I, op.Text))
 	if !ok {
 		return p, impl.BookRoom
 	}
 	return poolOf(d, c), impl.BookDone
+}
+
+// pointByHand makes a block point at what a write sets it to, and says whether there is room for that. The lists of the disk and of the state have to be its own.
+func pointByHand(d *impl.Disk, c *impl.Core, op impl.BookOp) bool {
+	next := impl.Ptr{}
+	if op.Text != "" {
+		at := placeByHand(d, *c, op.Text)
+		if c.Txg == 1000000 || at == 0 {
+			return false
+		}
+		next = ptr(at, impl.SumOf(op.Text), c.Txg+1)
+	}
+	set := &c.Sets[setAt(*c, op.A)]
+	if old := set.Map[op.I]; next.At == 0 || next.At != old.At {
+		set.Map[op.I], set.Dirty = next, true
+		c.Dirty = c.Dirty || old.At != 0 || next.At != 0
+		c.Ddt = coreOf(c.Sets...).Ddt
+	}
+	return true
 }
 
 // placeByHand is the sector of the first block that has a text, or else the first free one, to which the text is written; 0, if there is no room.
